@@ -1,0 +1,1 @@
+"""Patterns on a strip that repeats for ever: see borders.strips."""
