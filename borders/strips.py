@@ -12,13 +12,14 @@ KINDS = (0, 1, 2, 3)
 MOST_ROWS = 6
 MOST_COLUMNS = 12
 MOST_COLOUR = 9
+HOW_MANY_COLOURS = 10
 FARTHEST = 1000
 
 
 class Strip:
     """A strip of h rows that repeats every w columns; colours are its cells', by their numbers.
 
-    It is never changed: what paints it makes another, so that a refusal leaves all as it was.
+    It is never changed: what paints it makes another, so that it can be kept and come back to.
     """
 
     def __init__(self, h, w, colours):
@@ -28,10 +29,12 @@ class Strip:
 
 
 class Line:
-    """What the calls of one line are about."""
+    """What the calls of one line are about: the strip, the kept one, and those that undo comes back to."""
 
     def __init__(self):
         self.current = Strip(1, 1, [0])
+        self.kept = self.current
+        self.past = []
 
 
 def cells_within(h, width):
@@ -59,12 +62,19 @@ def moved(kind, k, cell, h):
     return (x + k, y)
 
 
-def keeps(strip, kind, k):
-    # Columns 0 to w - 1 speak for all: cells w columns apart go to cells w columns apart.
-    for cell in cells_within(strip.h, strip.w):
-        if colour_at(strip, moved(kind, k, cell, strip.h)) != colour_at(strip, cell):
+def takes(strip, other, kind, k, width):
+    """Does the motion take each cell of the strip to one of its colour of the other, which is as high?
+
+    Both repeat every width columns, so that columns 0 to width - 1 speak for all.
+    """
+    for cell in cells_within(strip.h, width):
+        if colour_at(other, moved(kind, k, cell, strip.h)) != colour_at(strip, cell):
             return False
     return True
+
+
+def keeps(strip, kind, k):
+    return takes(strip, strip, kind, k, strip.w)
 
 
 def period(strip):
@@ -106,10 +116,10 @@ def sort_of(strip):
 
 
 def numbers_along(strip, motions, cell, width):
-    """The numbers, rising, of the cells of columns 0 to width - 1 that go along with this one.
+    """The numbers, rising, of the cells of columns 0 to width - 1 to which one of these motions takes this one.
 
-    width is a multiple of the period, and motions are the strip's within it: any other motion
-    differs from one of these by a multiple of width columns.
+    Where width is a multiple of the period and motions are the strip's within it, these are all
+    that go along: any other motion differs from one of these by a multiple of width columns.
     """
     found = {}
     for kind, k in motions:
@@ -128,6 +138,45 @@ def least_numbers(strip):
     return found
 
 
+def numbers_reached(strip, motions, number):
+    """The numbers of the cells of columns 0 to w - 1 that one comes to from this one by these motions."""
+    cells = cells_within(strip.h, strip.w)
+    found = {number: True}
+    waiting = [number]
+    while waiting:
+        cell = cells[waiting.pop()]
+        for goal in numbers_along(strip, motions, cell, strip.w):
+            if goal not in found:
+                found[goal] = True
+                waiting.append(goal)
+    return sorted(found)
+
+
+def with_motion(strip, kind, k):
+    """The strip made to have this motion and all that it had."""
+    motions = motions_within(strip, strip.w) + [(kind, k)]
+    given = {}
+    for number, colour in enumerate(strip.colours):
+        # Numbers rise, so a cell that has been given its colour has come to one with a lesser number.
+        if number not in given:
+            for goal in numbers_reached(strip, motions, number):
+                given[goal] = colour
+    return Strip(strip.h, strip.w, [given[number] for number in range(len(strip.colours))])
+
+
+def first_motion(strip, other):
+    """The first motion (kind, k) that takes the strip to the other; None if they are not the same."""
+    t = period(strip)
+    # A motion takes a strip to one of its own period.
+    if other.h != strip.h or period(other) != t:
+        return None
+    for kind in KINDS:
+        for k in range(t):
+            if takes(strip, other, kind, k, t):
+                return (kind, k)
+    return None
+
+
 def coloured(strip, numbers, colour):
     """The strip with this colour in the cells with these numbers of columns 0 to w - 1."""
     colours = list(strip.colours)
@@ -140,8 +189,23 @@ def how_it_is(strip):
     return [period(strip), sort_of(strip)]
 
 
+def changed(line, strip):
+    """Lets the line be about this strip, so that undo comes back; how it is then."""
+    line.past.append(line.current)
+    line.current = strip
+    return how_it_is(strip)
+
+
 def is_colour(number):
     return number >= 0 and number <= MOST_COLOUR
+
+
+def are_colours(numbers):
+    return all([is_colour(number) for number in numbers])
+
+
+def is_near(number):
+    return number >= -FARTHEST and number <= FARTHEST
 
 
 def strip_fits(h, colours):
@@ -149,13 +213,11 @@ def strip_fits(h, colours):
         return False
     if len(colours) == 0 or len(colours) % h != 0 or len(colours) // h > MOST_COLUMNS:
         return False
-    return all([is_colour(colour) for colour in colours])
+    return are_colours(colours)
 
 
 def colouring_fits(strip, x, y, colour):
-    if x < -FARTHEST or x > FARTHEST:
-        return False
-    return y >= 0 and y < strip.h and is_colour(colour)
+    return is_near(x) and y >= 0 and y < strip.h and is_colour(colour)
 
 
 def answer_strip(line, numbers, lists):
@@ -163,8 +225,7 @@ def answer_strip(line, numbers, lists):
     colours = lists[0]
     if not strip_fits(h, colours):
         return [-1]
-    line.current = Strip(h, len(colours) // h, colours)
-    return how_it_is(line.current)
+    return changed(line, Strip(h, len(colours) // h, colours))
 
 
 def answer_period(line, numbers, lists):
@@ -195,16 +256,50 @@ def answer_paint(line, numbers, lists):
     if not colouring_fits(strip, numbers[0], numbers[1], numbers[2]):
         return [-1]
     along = numbers_along(strip, motions_within(strip, strip.w), (numbers[0], numbers[1]), strip.w)
-    line.current = coloured(strip, along, numbers[2])
-    return [len(along)] + how_it_is(line.current)
+    return [len(along)] + changed(line, coloured(strip, along, numbers[2]))
 
 
 def answer_set_cell(line, numbers, lists):
     strip = line.current
     if not colouring_fits(strip, numbers[0], numbers[1], numbers[2]):
         return [-1]
-    line.current = coloured(strip, [number_of((numbers[0], numbers[1]), strip.w)], numbers[2])
+    return changed(line, coloured(strip, [number_of((numbers[0], numbers[1]), strip.w)], numbers[2]))
+
+
+def answer_make(line, numbers, lists):
+    if numbers[0] not in KINDS or not is_near(numbers[1]):
+        return [-1]
+    return changed(line, with_motion(line.current, numbers[0], numbers[1]))
+
+
+def answer_swap(line, numbers, lists):
+    strip = line.current
+    if len(numbers) != HOW_MANY_COLOURS or not are_colours(numbers):
+        return [-1]
+    return changed(line, Strip(strip.h, strip.w, [numbers[colour] for colour in strip.colours]))
+
+
+def answer_keep(line, numbers, lists):
+    line.kept = line.current
+    return [period(line.kept)]
+
+
+def answer_same(line, numbers, lists):
+    motion = first_motion(line.current, line.kept)
+    if motion is None:
+        return [0]
+    return [1, motion[0], motion[1]]
+
+
+def answer_undo(line, numbers, lists):
+    if not line.past:
+        return [-7]
+    line.current = line.past.pop()
     return how_it_is(line.current)
+
+
+def answer_show(line, numbers, lists):
+    return [line.current.w, line.current.h] + line.current.colours
 
 
 ANSWERERS = {
@@ -215,6 +310,12 @@ ANSWERERS = {
     4: answer_least,
     5: answer_paint,
     6: answer_set_cell,
+    7: answer_make,
+    8: answer_swap,
+    9: answer_keep,
+    10: answer_same,
+    11: answer_undo,
+    12: answer_show,
 }
 
 

@@ -50,8 +50,32 @@ def set_cell(x, y, colour):
     return [6, 3, x, y, colour, 0]
 
 
+def make(kind, k):
+    return [7, 2, kind, k, 0]
+
+
+def swap(*colours):
+    return [8, len(colours), *colours, 0]
+
+
+def keep():
+    return [9, 0, 0]
+
+
+def same():
+    return [10, 0, 0]
+
+
+def undo():
+    return [11, 0, 0]
+
+
+def show():
+    return [12, 0, 0]
+
+
 def all_told():
-    """Four calls that tell all of a strip that can be asked for without changing it."""
+    """Four calls that tell what motions a strip has and what comes of them."""
     return [period(), kinds(), type_of(), least()]
 
 

@@ -2,7 +2,8 @@
 
 import unittest
 
-from calling import all_told, ask, kinds, least, paint, period, set_cell, strip, type_of
+from calling import (all_told, ask, keep, kinds, least, make, paint, period, same, set_cell, show, strip, swap,
+                     type_of, undo)
 
 ONE_OF_SEVEN = [1, 0, 0, 0, 0, 0, 0]
 
@@ -16,6 +17,13 @@ class Beginning(unittest.TestCase):
         self.assertEqual(ask(paint(0, 0, 7)), [[1, 1, 6]])
         self.assertEqual(ask(set_cell(0, 0, 7)), [[1, 6]])
         self.assertEqual(ask(strip(1, [7])), [[1, 6]])
+        for kind in range(4):
+            self.assertEqual(ask(make(kind, 1), show()), [[1, 6], [1, 1, 0]])
+        self.assertEqual(ask(swap(5, 0, 0, 0, 0, 0, 0, 0, 0, 0), show()), [[1, 6], [1, 1, 5]])
+        self.assertEqual(ask(keep()), [[1]])
+        self.assertEqual(ask(same()), [[1, 0, 0]])
+        self.assertEqual(ask(undo()), [[-7]])
+        self.assertEqual(ask(show()), [[1, 1, 0]])
 
     def test_one_row_and_one_column(self):
         self.assertEqual(ask(paint(-1000, 0, 3), set_cell(1000, 0, 4), *all_told()),
@@ -136,6 +144,27 @@ class FortyCalls(unittest.TestCase):
             told.extend([[2, 4], [2, 2, 4], [2, 0, 1], [2, 2]])
         self.assertEqual(len(calls), 40)
         self.assertEqual(ask(*calls), told)
+
+    def test_all_thirteen_calls_three_times_over(self):
+        round_of_calls = [strip(2, [1, 2, 3, 4, 5, 6, 7, 8]), period(), make(2, 2), kinds(), type_of(), keep(),
+                          paint(0, 0, 9), set_cell(-1, 1, 0), same(), undo(), swap(9, 8, 7, 6, 5, 4, 3, 2, 1, 0),
+                          least(), show()]
+        told = [[4, 0], [4], [4, 1], [1, 0, 0, 1, 2, 0], [1], [4],
+                [2, 4, 1], [4, 0], [0], [4, 1], [4, 1],
+                [4, 0, 1, 2, 3], [4, 2, 0, 7, 6, 5, 6, 5, 0, 7]]
+        calls = round_of_calls * 3 + [undo()]
+        self.assertEqual(len(calls), 40)
+        self.assertEqual(ask(*calls), told * 3 + [[4, 1]])
+
+    def test_the_largest_strip_made_again_and_again(self):
+        rows = [[(x * x * (y + 3) // 2 + x // 3 + y) % 10 for x in range(12)] for y in range(6)]
+        colours = [colour for row in rows for colour in row]
+        calls = [strip(6, colours), make(2, 0), make(1, 11)] + [make(kind % 4, 1) for kind in range(36)] + [show()]
+        given = ask(*calls)
+        self.assertEqual(given[:4], [[12, 0], [12, 5], [12, 6], [1, 6]])
+        self.assertEqual(given[4:39], [[1, 6]] * 35)
+        lowest = [row[0] for row in rows[:3]]
+        self.assertEqual(given[39], [12, 6] + [colour for colour in lowest + lowest[::-1] for x in range(12)])
 
     def test_the_longest_lists_of_colours(self):
         self.assertEqual(ask(*[strip(6, [1] * 100) for turn in range(40)]), [[-1]] * 40)
